@@ -1,0 +1,1 @@
+"""Two kinds of seeds whose pairs are worth different things at several places."""
