@@ -1,7 +1,7 @@
 """The calls on one object, and what each of them answers."""
 
-from kindshares.shares import ALL_SEEDS, direction, first_worth, lowest, mean_worth, second_worth
-from kindshares.shares import share_after, share_next
+from kindshares.shares import ALL_SEEDS, are_both_kept, best_place, chosen_share, first_growth, first_worth, lowest
+from kindshares.shares import mean_worth, product_way, second_growth, second_worth, share_after, share_next, share_way
 
 NO_SUCH_PLACE = -2
 NOT_STARTED = -11
@@ -14,13 +14,15 @@ NUMBERS_OF_A_PLACE = 4
 LEAST_WORTH = 1
 GREATEST_WORTH = 9
 GREATEST_LOWER_TOLD = 100
+GREATEST_LOWER_AT_MORE = 10
 GREATEST_LOWER_AT_NEXT = 100000
 MOST_GENERATIONS = 2
+LEAST_PARTS = 2
+MOST_PARTS = 30
 
 START = 0
 
-# By a call's number; start is not counted so, for its row tells its own length. The calls that nothing answers
-# yet stand here too, since before a start they are refused like the others.
+# By a call's number; start is not counted so, for its row tells its own length.
 HOW_MANY_NUMBERS = (0, 3, 4, 2, 0, 1, 1, 0, 1, 0, 2, 0, 0, 0, 1, 2, 0, 1, 1, 0)
 
 
@@ -135,7 +137,61 @@ def tell_after(field, numbers):
 
 
 def tell_way(field, numbers):
-    return [0, direction(field.share, share_next(field.share, field.seeds, field.worths))]
+    return [0, share_way(field.share, field.seeds, field.worths)]
+
+
+def tell_way_at(field, numbers):
+    if not is_share(numbers[0], numbers[1]):
+        return [NOT_AS_TOLD]
+    return [0, share_way(lowest(numbers[0], numbers[1]), field.seeds, field.worths)]
+
+
+def tell_enters(field, numbers):
+    return [0] + list(first_growth(field.seeds, field.worths))
+
+
+def tell_enters_other(field, numbers):
+    return [0] + list(second_growth(field.seeds, field.worths))
+
+
+def tell_both(field, numbers):
+    if are_both_kept(field.seeds, field.worths):
+        return [1]
+    return [0]
+
+
+def tell_at_place(field, numbers):
+    if not is_place(field, numbers[0]):
+        return [NO_SUCH_PLACE]
+    return [0] + list(chosen_share(field.share, field.worths[numbers[0]]))
+
+
+def tell_more(field, numbers):
+    if not is_share(numbers[0], numbers[1]) or numbers[1] > GREATEST_LOWER_AT_MORE:
+        return [NOT_AS_TOLD]
+    return [0, product_way(lowest(numbers[0], numbers[1]), field.seeds, field.worths)]
+
+
+def tell_best(field, numbers):
+    return [best_place(field.share, field.worths)]
+
+
+def tell_near(field, numbers):
+    parts = numbers[0]
+    if not LEAST_PARTS <= parts <= MOST_PARTS:
+        return [NOT_AS_TOLD]
+    ways = [share_way(lowest(upper, parts), field.seeds, field.worths) for upper in range(1, parts)]
+    return [len(ways)] + ways
+
+
+def tell_place(field, numbers):
+    if not is_place(field, numbers[0]):
+        return [NO_SUCH_PLACE]
+    return [field.seeds[numbers[0]]] + list(field.worths[numbers[0]])
+
+
+def tell_state(field, numbers):
+    return [len(field.seeds), sum(field.seeds)]
 
 
 ANSWERED_BY = {
@@ -149,6 +205,16 @@ ANSWERED_BY = {
     7: pass_generation,
     8: tell_after,
     9: tell_way,
+    10: tell_way_at,
+    11: tell_enters,
+    12: tell_enters_other,
+    13: tell_both,
+    14: tell_at_place,
+    15: tell_more,
+    16: tell_best,
+    17: tell_near,
+    18: tell_place,
+    19: tell_state,
 }
 
 

@@ -58,16 +58,29 @@ def mean_worth(share, worths):
     return lowest(mean_part(share, worths), share[1] * share[1])
 
 
-# The next generation's share; seeds and worths are told place by place.
-def share_next(share, seeds, worths):
+# The share chosen at a place, not yet in lowest terms.
+def chosen_parts(share, worths):
+    return (share[0] * first_part(share, worths), mean_part(share, worths))
+
+
+def chosen_share(share, worths):
+    chosen = chosen_parts(share, worths)
+    return lowest(chosen[0], chosen[1])
+
+
+# One upper and one lower number for each place, each times its hundredths of the seeds, together.
+def over_all_places(seeds, parts):
     upper = 0
     lower = 1
-    for seeds_here, worths_here in zip(seeds, worths):
-        chosen = share[0] * first_part(share, worths_here)
-        mean = mean_part(share, worths_here)
-        upper = upper * mean + seeds_here * chosen * lower
-        lower = lower * mean
+    for seeds_here, part in zip(seeds, parts):
+        upper = upper * part[1] + seeds_here * part[0] * lower
+        lower = lower * part[1]
     return lowest(upper, lower * ALL_SEEDS)
+
+
+# The next generation's share; here and below seeds and worths are told place by place.
+def share_next(share, seeds, worths):
+    return over_all_places(seeds, [chosen_parts(share, worths_here) for worths_here in worths])
 
 
 def share_after(share, seeds, worths, generations):
@@ -84,3 +97,54 @@ def direction(before, later):
     if gain < 0:
         return -1
     return 0
+
+
+def share_way(share, seeds, worths):
+    return direction(share, share_next(share, seeds, worths))
+
+
+# By how much a little of the first kind grows among the second.
+def first_growth(seeds, worths):
+    return over_all_places(seeds, [(worths_here[1], worths_here[2]) for worths_here in worths])
+
+
+# By how much a little of the second kind grows among the first.
+def second_growth(seeds, worths):
+    return over_all_places(seeds, [(worths_here[1], worths_here[0]) for worths_here in worths])
+
+
+def is_above_one(fraction):
+    return fraction[0] > fraction[1]
+
+
+def are_both_kept(seeds, worths):
+    return is_above_one(first_growth(seeds, worths)) and is_above_one(second_growth(seeds, worths))
+
+
+# All places' means have the same lower number here, so that their parts stand for them.
+def best_place(share, worths):
+    parts = [mean_part(share, worths_here) for worths_here in worths]
+    return parts.index(max(parts))
+
+
+def power(number, times):
+    product = 1
+    for turn in range(times):
+        product = product * number
+    return product
+
+
+# The product as an upper and a lower number that may have a common divisor: they are great, and only compared.
+def product_of_means(share, seeds, worths):
+    upper = 1
+    lower = 1
+    for seeds_here, worths_here in zip(seeds, worths):
+        mean = mean_worth(share, worths_here)
+        upper = upper * power(mean[0], seeds_here)
+        lower = lower * power(mean[1], seeds_here)
+    return (upper, lower)
+
+
+def product_way(share, seeds, worths):
+    later = share_next(share, seeds, worths)
+    return direction(product_of_means(share, seeds, worths), product_of_means(later, seeds, worths))

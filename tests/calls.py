@@ -45,6 +45,46 @@ def way():
     return [9]
 
 
+def way_at(x, y):
+    return [10, x, y]
+
+
+def enters():
+    return [11]
+
+
+def enters_other():
+    return [12]
+
+
+def both():
+    return [13]
+
+
+def at_place(i):
+    return [14, i]
+
+
+def more(x, y):
+    return [15, x, y]
+
+
+def best():
+    return [16]
+
+
+def near(n):
+    return [17, n]
+
+
+def place(i):
+    return [18, i]
+
+
+def state():
+    return [19]
+
+
 def joined(calls):
     return [number for call in calls for number in call]
 
@@ -75,7 +115,8 @@ def last(*calls):
 
 def everything(places):
     """Calls that change nothing and together show all that an object keeps."""
-    shown = [told(), after(1), after(2), way()]
-    for place in range(places):
-        shown += [mean(place), kinds(place)]
+    shown = [told(), after(1), after(2), way(), way_at(1, 3), enters(), enters_other(), both(), more(3, 10), best(),
+             near(5), state()]
+    for at in range(places):
+        shown += [mean(at), kinds(at), at_place(at), place(at)]
     return shown

@@ -1,10 +1,12 @@
 """The program beside the document's own words, worked out in Python's fractions."""
 
+import math
 import random
 import unittest
 from fractions import Fraction
 
 import calls as c
+from kindshares.places import answers
 
 
 def pair(fraction):
@@ -30,6 +32,29 @@ class Model:
     def following(self):
         chosen = [self.share * self.kinds(i)[0] / self.mean(i) for i in range(len(self.places))]
         return sum(Fraction(place[0], 100) * part for place, part in zip(self.places, chosen))
+
+    def at(self, share, told):
+        """What told answers, were the share that."""
+        kept = self.share
+        self.share = share
+        answered = told()
+        self.share = kept
+        return answered
+
+    def way(self):
+        following = self.following()
+        return (following > self.share) - (following < self.share)
+
+    def product(self):
+        powers = [self.mean(i) ** place[0] for i, place in enumerate(self.places)]
+        return math.prod(powers)
+
+    def product_way(self):
+        later = self.at(self.following(), self.product)
+        return (later > self.product()) - (later < self.product())
+
+    def growth(self, with_itself):
+        return sum(Fraction(place[0], 100) * Fraction(place[2], place[with_itself]) for place in self.places)
 
     def later(self, generations):
         kept = self.share
@@ -106,8 +131,45 @@ class Model:
         return [-22] if n > 2 else [0] + pair(self.later(n))
 
     def call_9(self):
-        following = self.following()
-        return [0, (following > self.share) - (following < self.share)]
+        return [0, self.way()]
+
+    def call_10(self, x, y):
+        return [-22] if y == 0 or y > 100 or x > y else [0, self.at(Fraction(x, y), self.way)]
+
+    def call_11(self):
+        return [0] + pair(self.growth(3))
+
+    def call_12(self):
+        return [0] + pair(self.growth(1))
+
+    def call_13(self):
+        return [1] if self.growth(3) > 1 and self.growth(1) > 1 else [0]
+
+    def call_14(self, i):
+        if i not in range(len(self.places)):
+            return [-2]
+        return [0] + pair(self.share * self.kinds(i)[0] / self.mean(i))
+
+    def call_15(self, x, y):
+        return [-22] if y == 0 or y > 10 or x > y else [0, self.at(Fraction(x, y), self.product_way)]
+
+    def call_16(self):
+        best = 0
+        for i in range(1, len(self.places)):
+            if self.mean(i) > self.mean(best):
+                best = i
+        return [best]
+
+    def call_17(self, n):
+        if n < 2 or n > 30:
+            return [-22]
+        return [n - 1] + [self.at(Fraction(upper, n), self.way) for upper in range(1, n)]
+
+    def call_18(self, i):
+        return list(self.places[i]) if i in range(len(self.places)) else [-2]
+
+    def call_19(self):
+        return [len(self.places), sum(place[0] for place in self.places)]
 
 
 def some_start(chance):
@@ -132,25 +194,29 @@ def some_worth(chance):
     return chance.choice((0, 10, c.GREATEST)) if chance.random() < 0.05 else chance.randint(1, 9)
 
 
-def some_share(chance):
-    lower = chance.choice((0, 1, 2, 3, 4, 5, 10, 99, 100, 101, chance.randint(1, 100), c.GREATEST))
-    return c.share(chance.choice((0, lower, min(lower + 1, c.GREATEST), chance.randint(0, lower))), lower)
+def some_share(chance, lowers):
+    lower = chance.choice(lowers)
+    return [chance.choice((0, lower, min(lower + 1, c.GREATEST), chance.randint(0, lower))), lower]
 
 
 def some_call(chance):
-    kind = chance.choice((0, 1, 1, 2, 2, 3, 3, 3, 4, 5, 6, 7, 7, 8, 8, 9, 9))
+    kind = chance.choice((0, 1, 1, 2, 2, 3, 3, 3, 7, 7, *range(4, 20)))
     if kind == 0:
         return some_start(chance)
     if kind == 1:
         return c.seeds(some_place(chance), some_place(chance), chance.choice((0, 1, 2, 5, 30, 100, 101, c.GREATEST)))
     if kind == 2:
         return c.worths(some_place(chance), some_worth(chance), some_worth(chance), some_worth(chance))
-    if kind == 3:
-        return some_share(chance)
-    if kind in (5, 6):
+    if kind in (3, 10):
+        return [kind, *some_share(chance, (0, 1, 2, 3, 4, 5, 10, 99, 100, 101, chance.randint(1, 100), c.GREATEST))]
+    if kind in (5, 6, 14, 18):
         return [kind, some_place(chance)]
     if kind == 8:
         return c.after(chance.choice((0, 1, 2, 2, 3, c.GREATEST)))
+    if kind == 15:
+        return [kind, *some_share(chance, (0, 1, 2, 3, 7, 9, 10, 10, 11, 100, c.GREATEST))]
+    if kind == 17:
+        return c.near(chance.choice((0, 1, 2, 3, 10, 30, 31, c.GREATEST)))
     return [kind]
 
 
@@ -167,8 +233,22 @@ class BesideTheModel(unittest.TestCase):
                 seen[(call[0], min(answered[0], 0))] = True
         # So the chances above have brought each refusal of each call, and each call's answer.
         for met in ((0, -22), (1, -2), (1, -22), (1, -12), (2, -2), (2, -22), (3, -22), (5, -2), (6, -2), (7, -28),
-                    (8, -22), *((call, 0) for call in range(10)), *((call, -11) for call in range(1, 10))):
+                    (8, -22), (10, -22), (14, -2), (15, -22), (17, -22), (18, -2),
+                    *((call, 0) for call in range(20)), *((call, -11) for call in range(1, 20))):
             self.assertIn(met, seen)
+
+    def test_two_hundred_calls_of_all_twenty_kinds(self):
+        chance = random.Random(200)
+        for line in range(20):
+            calls = [c.start(20, 1, 9, 2, 30, 4, 4, 4, 50, 9, 1, 8)] + [some_call(chance) for _ in range(199)]
+            self.assertEqual({call[0] for call in calls}, set(range(20)))
+            model = Model()
+            asked = [model.answer(list(call)) for call in calls]
+            handed = c.joined(calls)
+            whole = [number for answered in asked for number in (len(answered), *answered)]
+            self.assertEqual(answers(handed), whole)
+            self.assertEqual(handed, c.joined(calls))
+            self.assertEqual(answers(handed), whole)
 
     def test_each_share_of_some_places(self):
         starts = [c.start(100, 9, 1, 8), c.start(50, 1, 9, 1, 50, 9, 1, 9),

@@ -1,7 +1,8 @@
-"""Points 2 and 3: told, mean, kinds, after, way."""
+"""Points 2 and 4, and way of point 3: what is told of the share and the places as they stand."""
 
 import math
 import unittest
+from fractions import Fraction
 
 import calls as c
 
@@ -9,6 +10,8 @@ ONE = c.start(100, 1, 5, 9)
 TWO = c.start(60, 3, 2, 1, 40, 1, 2, 3)
 THREE = c.start(20, 1, 9, 2, 30, 4, 4, 4, 50, 9, 1, 8)
 GREAT = [c.start(33, 9, 7, 8, 33, 5, 8, 9, 34, 7, 9, 8), c.share(47, 97), c.generation()]
+# Where the worths are 1, 3 and 9 a share of x by y becomes x by 3y - 2x: here it is 1 by 216514 in the end.
+SMALL = [c.start(0, 9, 9, 9, 100, 1, 3, 9), c.share(1, 100), *([c.generation()] * 7)]
 
 
 class Told(unittest.TestCase):
@@ -133,6 +136,111 @@ class Way(unittest.TestCase):
         ready = [c.start(100, 8, 9, 8), c.share(50, 99), c.generation()]
         self.assertEqual(c.ask(*ready, c.way())[3:], [[0, -1]])
         self.assertEqual(c.ask(c.start(100, 8, 9, 8), c.share(49, 99), c.generation(), c.way())[3:], [[0, 1]])
+
+
+class AtPlace(unittest.TestCase):
+    def test_at_each_place(self):
+        # With 1/2: 1/2 times 5 by 21/4, 1/2 times 4 by 4, 1/2 times 5 by 19/4.
+        self.assertEqual(c.ask(THREE, c.share(1, 2), c.at_place(0), c.at_place(1), c.at_place(2))[2:],
+                         [[0, 10, 21], [0, 1, 2], [0, 10, 19]])
+        # With 1/3: 1/3 times 19/3 by 5, 1/3 times 11/3 by 5.
+        self.assertEqual(c.ask(THREE, c.share(1, 3), c.at_place(0), c.at_place(2))[2:], [[0, 19, 45], [0, 11, 45]])
+
+    def test_the_seeds_have_no_say(self):
+        ready = [TWO, c.share(1, 2)]
+        self.assertEqual(c.ask(*ready, c.at_place(0), c.seeds(0, 1, 60), c.at_place(0))[2:],
+                         [[0, 5, 8], [100], [0, 5, 8]])
+
+    def test_a_place_without_seeds_chooses_too(self):
+        self.assertEqual(c.last(c.start(100, 1, 1, 1, 0, 3, 2, 1), c.share(1, 2), c.at_place(1)), [0, 5, 8])
+
+    def test_one_place_chooses_the_next_share(self):
+        for upper in range(8):
+            parts = c.ask(ONE, c.share(upper, 7), c.at_place(0), c.after(1))
+            self.assertEqual(parts[2], parts[3])
+
+    def test_a_share_of_0_and_of_1(self):
+        for place in range(3):
+            self.assertEqual(c.ask(THREE, c.at_place(place), c.share(1, 1), c.at_place(place)),
+                             [[3], [0, 0, 1], [0], [0, 1, 1]])
+
+    def test_worths_alike(self):
+        self.assertEqual(c.last(c.start(100, 7, 7, 7), c.share(13, 99), c.at_place(0)), [0, 13, 99])
+
+    def test_the_share_that_stands_has_great_numbers(self):
+        self.assertEqual(c.ask(*SMALL, c.told(), c.generation(), c.at_place(0), c.at_place(1))[9:],
+                         [[0, 1, 216514], [-28], [0, 1, 216514], [0, 1, 649540]])
+        chosen = c.ask(*GREAT, c.at_place(0), c.at_place(1), c.at_place(2), c.after(1))[3:]
+        shares = [Fraction(part[1], part[2]) for part in chosen]
+        self.assertEqual(sum(n * share for n, share in zip((33, 33, 34), shares)), 100 * shares[3])
+        for part in chosen:
+            self.assertEqual(math.gcd(part[1], part[2]), 1)
+
+    def test_no_such_place(self):
+        for start, places in ((ONE, 1), (TWO, 2), (THREE, 3)):
+            self.assertEqual(c.ask(start, c.at_place(places), c.at_place(places + 1), c.at_place(c.GREATEST))[1:],
+                             [[-2]] * 3)
+
+
+class Best(unittest.TestCase):
+    def test_the_place_whose_mean_is_greatest(self):
+        # The means are 1 + 2p and 3 - 2p.
+        self.assertEqual(c.ask(TWO, c.best(), c.share(49, 100), c.best(), c.share(51, 100), c.best(), c.share(1, 1),
+                               c.best())[1:], [[1], [0], [1], [0], [0], [0], [0]])
+        # With 1/2 they are 21/4, 4 and 19/4.
+        self.assertEqual(c.last(THREE, c.share(1, 2), c.best()), [0])
+        self.assertEqual(c.last(THREE, c.share(1, 2), c.worths(1, 9, 9, 8), c.best()), [1])
+        self.assertEqual(c.last(THREE, c.share(1, 2), c.worths(2, 9, 9, 8), c.best()), [2])
+
+    def test_the_first_of_those_with_the_same_mean(self):
+        self.assertEqual(c.last(TWO, c.share(1, 2), c.best()), [0])
+        # With 1/3 the means are 5, 4, 5.
+        self.assertEqual(c.last(THREE, c.share(1, 3), c.best()), [0])
+        self.assertEqual(c.last(c.start(20, 1, 1, 1, 30, 5, 5, 5, 50, 5, 5, 5), c.share(1, 3), c.best()), [1])
+        self.assertEqual(c.last(c.start(20, 5, 5, 5, 30, 5, 5, 5, 50, 5, 5, 5), c.share(1, 3), c.best()), [0])
+
+    def test_one_place(self):
+        self.assertEqual(c.ask(ONE, c.best(), c.share(1, 2), c.best())[1:], [[0], [0], [0]])
+
+    def test_a_place_without_seeds_may_be_the_best(self):
+        self.assertEqual(c.last(c.start(100, 1, 2, 3, 0, 9, 9, 9), c.best()), [1])
+        self.assertEqual(c.last(c.start(0, 9, 9, 9, 100, 1, 2, 3), c.best()), [0])
+
+    def test_the_share_that_stands_has_great_numbers(self):
+        # With 1 by 216514 the mean there is a little below 9.
+        self.assertEqual(c.ask(*SMALL, c.mean(1), c.best(), c.share(0, 1), c.best())[9:],
+                         [[0, 324770 ** 2, 108257 ** 2], [0], [0], [0]])
+        swapped = [c.start(100, 1, 3, 9, 0, 9, 9, 9), *SMALL[1:]]
+        self.assertEqual(c.ask(*swapped, c.best(), c.share(0, 1), c.best())[9:], [[1], [0], [0]])
+
+
+class Place(unittest.TestCase):
+    def test_its_seeds_and_its_worths(self):
+        self.assertEqual(c.ask(THREE, c.place(0), c.place(1), c.place(2))[1:],
+                         [[20, 1, 9, 2], [30, 4, 4, 4], [50, 9, 1, 8]])
+        self.assertEqual(c.last(ONE, c.place(0)), [100, 1, 5, 9])
+
+    def test_as_they_stand_now(self):
+        changed = [THREE, c.seeds(0, 2, 20), c.worths(1, 7, 8, 9), c.worths(2, 3, 2, 1), c.generation()]
+        self.assertEqual(c.ask(*changed, c.place(0), c.place(1), c.place(2))[5:],
+                         [[0, 1, 9, 2], [30, 7, 8, 9], [70, 3, 2, 1]])
+        self.assertEqual(c.ask(*changed, TWO, c.place(0), c.place(1), c.place(2))[6:],
+                         [[60, 3, 2, 1], [40, 1, 2, 3], [-2]])
+
+    def test_no_such_place(self):
+        for start, places in ((ONE, 1), (TWO, 2), (THREE, 3)):
+            self.assertEqual(c.ask(start, c.place(places), c.place(places + 1), c.place(c.GREATEST))[1:], [[-2]] * 3)
+
+
+class State(unittest.TestCase):
+    def test_how_many_places_and_all_seeds(self):
+        for start, places in ((ONE, 1), (TWO, 2), (THREE, 3), (c.start(0, 1, 1, 1, 100, 9, 9, 9), 2)):
+            self.assertEqual(c.last(start, c.state()), [places, 100])
+
+    def test_whatever_was_done(self):
+        changed = [THREE, c.seeds(0, 2, 20), c.share(1, 2), c.generation(), c.worths(0, 1, 1, 1)]
+        self.assertEqual(c.last(*changed, c.state()), [3, 100])
+        self.assertEqual(c.ask(THREE, ONE, c.state(), c.start(99, 1, 1, 1), c.state())[2:], [[1, 100], [-22], [1, 100]])
 
 
 if __name__ == "__main__":
